@@ -1,0 +1,1 @@
+"""Pipelines for sand and water: sandpipe.pipe.answers is the way in."""

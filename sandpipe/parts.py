@@ -1,0 +1,32 @@
+"""What is kept of a pipe between two calls."""
+
+
+class Piece:
+    """A piece: metres long, decimetres that it rises, millimetres wide."""
+
+    def __init__(self, long, rise, wide):
+        self.long = long
+        self.rise = rise
+        self.wide = wide
+
+
+class Pump:
+    """A pump at the beginning of a piece; runs is 1 or 0, as the call on tells it."""
+
+    def __init__(self, at, adds):
+        self.at = at
+        self.adds = adds
+        self.runs = 1
+
+
+class Pipe:
+    """The whole pipe and what is pumped through it; its numbers mean nothing before it is begun."""
+
+    def __init__(self):
+        self.begun = False
+        self.grain = 0
+        self.mix = 0
+        self.low = 0
+        self.high = 0
+        self.pieces = []
+        self.pumps = []
