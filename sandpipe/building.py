@@ -1,5 +1,10 @@
 """The calls that change a pipe. Each looks for every refusal before it changes anything."""
 
+from sandpipe.limits import MOST_PIECES
+from sandpipe.limits import MOST_PUMPS
+from sandpipe.limits import is_grain
+from sandpipe.limits import is_mix
+from sandpipe.limits import is_piece
 from sandpipe.parts import Piece
 from sandpipe.parts import Pump
 from sandpipe.refusals import ALREADY
@@ -8,17 +13,6 @@ from sandpipe.refusals import NO_SUCH
 from sandpipe.refusals import OUT_OF_RANGE
 from sandpipe.refusals import PUMP_THERE
 from sandpipe.refusals import TOO_MANY
-
-MOST_PIECES = 8
-MOST_PUMPS = 6
-
-
-def is_grain(grain):
-    return 1 <= grain <= 9
-
-
-def is_mix(mix):
-    return mix <= 40
 
 
 def begin(pipe, grain, mix, low, high):
@@ -34,10 +28,6 @@ def begin(pipe, grain, mix, low, high):
     pipe.pieces = []
     pipe.pumps = []
     return [0]
-
-
-def is_piece(long, rise, wide):
-    return 1 <= long <= 3000 and -300 <= rise <= 300 and 100 <= wide <= 1200
 
 
 def add_piece(pipe, long, rise, wide):
@@ -58,7 +48,7 @@ def add_pump(pipe, at, adds):
     number = len(pipe.pumps)
     if number >= MOST_PUMPS:
         return [TOO_MANY]
-    pipe.pumps.append(Pump(at, adds))
+    pipe.pumps.append(Pump(at, adds, 1))
     return [number]
 
 

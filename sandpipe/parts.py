@@ -13,10 +13,10 @@ class Piece:
 class Pump:
     """A pump at the beginning of a piece; runs is 1 or 0, as the call on tells it."""
 
-    def __init__(self, at, adds):
+    def __init__(self, at, adds, runs):
         self.at = at
         self.adds = adds
-        self.runs = 1
+        self.runs = runs
 
 
 class Pipe:
@@ -30,3 +30,16 @@ class Pipe:
         self.high = 0
         self.pieces = []
         self.pumps = []
+
+
+def copied(pipe):
+    """A pipe like this one, with lists of its own; the pieces and pumps in them are the same."""
+    other = Pipe()
+    other.begun = pipe.begun
+    other.grain = pipe.grain
+    other.mix = pipe.mix
+    other.low = pipe.low
+    other.high = pipe.high
+    other.pieces = list(pipe.pieces)
+    other.pumps = list(pipe.pumps)
+    return other

@@ -1,11 +1,20 @@
 """The way in: a list of calls is answered by a list of answers."""
 
+from sandpipe.asking import blocks
+from sandpipe.asking import fastest
+from sandpipe.asking import flow
 from sandpipe.asking import gives
 from sandpipe.asking import goes
+from sandpipe.asking import least
+from sandpipe.asking import look
 from sandpipe.asking import loses
+from sandpipe.asking import most
 from sandpipe.asking import pressures
 from sandpipe.asking import settles
 from sandpipe.asking import slowest
+from sandpipe.asking import spare
+from sandpipe.asking import state
+from sandpipe.asking import why
 from sandpipe.building import add_piece
 from sandpipe.building import add_pump
 from sandpipe.building import begin
@@ -14,13 +23,18 @@ from sandpipe.building import change_mix
 from sandpipe.building import cut_piece
 from sandpipe.building import switch_pump
 from sandpipe.parts import Pipe
+from sandpipe.planning import farther
+from sandpipe.planning import fewest
+from sandpipe.planning import richest
 from sandpipe.refusals import NOT_BEGUN
 
-# How many numbers stand behind a call's own, by that number. Calls that are not built yet are
-# here too: ahead of a begin they are answered like all others.
+# How many numbers stand behind a call's own, by that number.
 ARGUMENT_COUNTS = (4, 3, 2, 2, 1, 1, 0, 2, 1, 2, 1, 1, 0, 0, 1, 1, 1, 1, 1, 1, 1, 2, 1, 1, 0)
 
+# The last numbers of the runs in which the calls are told apart below.
 LAST_CHANGE = 6
+LAST_MEASURE = 13
+LAST_BY_SPEED = 20
 
 
 def answer_change(pipe, number, told):
@@ -37,7 +51,7 @@ def answer_change(pipe, number, told):
     return cut_piece(pipe)
 
 
-def answer_question(pipe, number, told):
+def answer_measure(pipe, number, told):
     if number == 7:
         return loses(pipe, told[0], told[1])
     if number == 8:
@@ -50,7 +64,33 @@ def answer_question(pipe, number, told):
         return goes(pipe, told[0])
     if number == 12:
         return slowest(pipe)
-    raise NotImplementedError(f"call {number} is not built yet")
+    return fastest(pipe)
+
+
+def answer_by_speed(pipe, number, speed):
+    if number == 14:
+        return why(pipe, speed)
+    if number == 15:
+        return blocks(pipe, speed)
+    if number == 16:
+        return least(pipe, speed)
+    if number == 17:
+        return most(pipe, speed)
+    if number == 18:
+        return spare(pipe, speed)
+    if number == 19:
+        return fewest(pipe, speed)
+    return richest(pipe, speed)
+
+
+def answer_rest(pipe, number, told):
+    if number == 21:
+        return farther(pipe, told[0], told[1])
+    if number == 22:
+        return flow(pipe, told[0])
+    if number == 23:
+        return look(pipe, told[0])
+    return state(pipe)
 
 
 def answer_call(pipe, number, told):
@@ -60,7 +100,11 @@ def answer_call(pipe, number, told):
         return [NOT_BEGUN]
     if number <= LAST_CHANGE:
         return answer_change(pipe, number, told)
-    return answer_question(pipe, number, told)
+    if number <= LAST_MEASURE:
+        return answer_measure(pipe, number, told)
+    if number <= LAST_BY_SPEED:
+        return answer_by_speed(pipe, number, told[0])
+    return answer_rest(pipe, number, told)
 
 
 def answers(calls):

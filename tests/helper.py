@@ -7,10 +7,10 @@ NAMES = (
     "slowest", "fastest", "why", "blocks", "least", "most", "spare", "fewest", "richest", "farther", "flow",
     "look", "state",
 )
-BUILT = NAMES[:13]
 LARGEST = 4294967295
 HIGHEST = 2147483647
 LOWEST = -2147483648
+WRONG_SPEEDS = (0, 100, 101, LARGEST)
 
 
 def laid(calls):
@@ -48,9 +48,9 @@ def last(*calls):
 
 def probe():
     """Looking calls by whose answers two pipes that differ in anything are told apart."""
-    calls = [("pressures", 37), ("slowest",)]
+    calls = [("state",), ("pressures", 37), ("slowest",), ("fastest",)]
     for piece in range(9):
-        calls.extend([("loses", piece, 37), ("loses", piece, 99), ("settles", piece)])
+        calls.extend([("loses", piece, 37), ("loses", piece, 99), ("settles", piece), ("look", piece)])
     calls.extend([("gives", pump, 37) for pump in range(7)])
     calls.extend([("goes", speed) for speed in range(1, 100)])
     return calls

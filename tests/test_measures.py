@@ -5,11 +5,10 @@ import random
 import unittest
 from fractions import Fraction
 
-from tests.helper import LARGEST, ask, last
+from tests.helper import LARGEST, WRONG_SPEEDS, ask, last
 
 BEGIN = ("begin", 1, 0, -10, 500)
 PIECE = ("piece", 100, 0, 100)
-WRONG_SPEEDS = (0, 100, 101, LARGEST)
 
 
 class Loses(unittest.TestCase):
